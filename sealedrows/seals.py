@@ -4,13 +4,24 @@ CALL_KEY = 0
 CALL_BLOCK = 1
 CALL_STREAM = 2
 CALL_MARK = 3
+CALL_SEAL = 4
+CALL_OPEN = 5
+CALL_DROPS = 6
 
 REFUSED = -2
 MOST_BYTES = 65536
+MOST_DROPS = 16
 
 WORD_BYTES = 4
-BLOCK_BYTES = 64
+LENGTH_BYTES = 8
+ONCE_BYTES = 12
 MARK_BYTES = 16
+KEY_BYTES = 32
+BLOCK_BYTES = 64
+
+# A sealed message's first block, that of counter 0, goes into the key of its mark and never into the message.
+MARK_COUNTER = 0
+MESSAGE_COUNTER = 1
 
 # The largest number of 32 bits: what goes beyond it is cut off by "and".
 WORD_MASK = 0xffffffff
@@ -108,6 +119,28 @@ def make_mark(key, row):
     return bytes_from(total + number_from(key[MARK_BYTES:]), MARK_BYTES)
 
 
+def make_drops(key, once, counters):
+    made = []
+    for place, counter in enumerate(counters):
+        start = place * ONCE_BYTES
+        made.extend(make_block(key, once[start:start + ONCE_BYTES], counter))
+    return made
+
+
+def fill_up(row):
+    beyond = len(row) % MARK_BYTES
+    if beyond == 0:
+        return row
+    return row + [0] * (MARK_BYTES - beyond)
+
+
+def make_seal_mark(key, once, seen, sealed):
+    mark_key = make_block(key, once, MARK_COUNTER)[:KEY_BYTES]
+    # The lengths tell where seen ends and the sealed bytes begin, which the filled up rows alone don't.
+    lengths = bytes_from(len(seen), LENGTH_BYTES) + bytes_from(len(sealed), LENGTH_BYTES)
+    return make_mark(mark_key, fill_up(seen) + fill_up(sealed) + lengths)
+
+
 class Reader:
     def __init__(self, calls):
         self.calls = calls
@@ -126,6 +159,18 @@ class Reader:
         start = self.place
         self.place = start + many
         return self.calls[start:self.place]
+
+
+class Parcel:
+    def __init__(self, reader):
+        self.s = reader.read_number()
+        self.n = reader.read_number()
+        self.once = reader.read_row()
+        self.seen = reader.read_row()
+        self.data = reader.read_row()
+
+    def is_too_long(self):
+        return self.s > MOST_BYTES or self.n > MOST_BYTES
 
 
 # A refused call's rows are read too: the next call stands behind them.
@@ -159,6 +204,31 @@ class Sealer:
             return [REFUSED]
         return [0] + make_mark(key, row)
 
+    def answer_seal(self, reader):
+        parcel = Parcel(reader)
+        if parcel.is_too_long():
+            return [REFUSED]
+        sealed = make_stream(self.key, parcel.once, MESSAGE_COUNTER, parcel.data)
+        return [0] + sealed + make_seal_mark(self.key, parcel.once, parcel.seen, sealed)
+
+    def answer_open(self, reader):
+        parcel = Parcel(reader)
+        if parcel.is_too_long():
+            return [REFUSED]
+        sealed = parcel.data[:parcel.n]
+        mark = parcel.data[parcel.n:]
+        if mark != make_seal_mark(self.key, parcel.once, parcel.seen, sealed):
+            return [0]
+        return [1] + make_stream(self.key, parcel.once, MESSAGE_COUNTER, sealed)
+
+    def answer_drops(self, reader):
+        n = reader.read_number()
+        once = reader.read_row()
+        counters = reader.read_row()
+        if n < 1 or n > MOST_DROPS:
+            return [REFUSED]
+        return [0] + make_drops(self.key, once, counters)
+
     def answer_call(self, reader):
         call = reader.read_number()
         if call == CALL_KEY:
@@ -169,6 +239,12 @@ class Sealer:
             return self.answer_stream(reader)
         if call == CALL_MARK:
             return self.answer_mark(reader)
+        if call == CALL_SEAL:
+            return self.answer_seal(reader)
+        if call == CALL_OPEN:
+            return self.answer_open(reader)
+        if call == CALL_DROPS:
+            return self.answer_drops(reader)
         raise UnknownCall(f"no call has the number {call}")
 
 

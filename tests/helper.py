@@ -31,8 +31,24 @@ def mark_call(n, key, b):
     return [3, n] + counted(key) + counted(b)
 
 
+def seal_call(s, n, once, seen, data):
+    return [4, s, n] + counted(once) + counted(seen) + counted(data)
+
+
+def open_call(s, n, once, seen, data):
+    return [5, s, n] + counted(once) + counted(seen) + counted(data)
+
+
+def drops_call(n, once, counters):
+    return [6, n] + counted(once) + counted(counters)
+
+
 def answered(made):
     return counted([0] + made)
+
+
+def opened(message):
+    return counted([1] + message)
 
 
 def combined(data, pad):
@@ -50,6 +66,7 @@ class AnswersTest(unittest.TestCase):
 
 KEY_ANSWER = [1, 0]
 REFUSAL = [1, -2]
+NOT_OPENED = [1, 0]
 
 # The key and the twelve bytes of RFC 8439 2.3.2.
 KEY = list(range(32))
@@ -97,3 +114,61 @@ ZERO_BLOCKS = {
 MARK_KEY = row("85d6be7857556d337f4452fe42d506a80103808afb0db2fd4abff6af4149f51b")
 MARK_ROW = text_row("Cryptographic Forum Research Group")
 MARK = row("a8061dc1305136c6c22b8baf0c0127a9")
+
+
+def seen_row(s):
+    return [(201 + 3 * place) % 256 for place in range(s)]
+
+
+def data_row(n):
+    return [(5 + 7 * place) % 256 for place in range(n)]
+
+
+# Made with OpenSSL: by s and n, the marks of seen_row(s) and data_row(n) sealed under KEY with ONCE.
+SEAL_MARKS = {
+    (0, 0): "8e62f3b3c9fdbfce61fa1a01cbd7e08b",
+    (0, 1): "1f5fdf314008ee75fa06e6ba9eebec4c",
+    (0, 15): "f3c5b1c89960c60b4c7196ddbf722e53",
+    (0, 16): "7bc0031d477768b2c05e78d9d0d4c9cf",
+    (0, 17): "e603343c26c0bc2908316b4466543d60",
+    (0, 63): "549b62c7aa97d8b740c294563261eb95",
+    (0, 64): "5b538cb64e1df1809da797b4af4a2707",
+    (0, 65): "286abeedc34982efe443b1fa28ff9cbb",
+    (1, 0): "1c68a2a256e09f06c884062562c731e2",
+    (1, 1): "aa4aa4965d37a07d7ebe19cb3eb07b4b",
+    (1, 15): "7eb1762db78f7813d028caed5f37bd51",
+    (1, 16): "06acc88164a61aba4416ace9709958ce",
+    (1, 17): "6ca744536a2aca95344195c6722139cb",
+    (1, 63): "b34a0e2ce4c32641e8949301f90e1137",
+    (1, 64): "ba02381b88493f0a457a965f76f84ca8",
+    (1, 65): "25fec5aaabb29bde0c998bb9aea9873e",
+    (15, 0): "d81587b40a1d120aa742994b19afd9de",
+    (15, 1): "23e51447b0fe065366178b2560f8b72b",
+    (15, 15): "fc4be7dd0957dfe8b7813b48817ff931",
+    (15, 16): "7f463932b76d818f2c6f1d4492e194ae",
+    (15, 17): "0485b5c76fec842b459ade2554a1c488",
+    (15, 63): "d3ef6d7ebf0b142457b15504e3cf58f9",
+    (15, 64): "daa7976d63912cedb396586260b9946a",
+    (15, 65): "dfd6f1e89ad6d8eb6f443d36c8c16f29",
+    (16, 0): "442df94faa814b47cafa860b493376a1",
+    (16, 1): "0466179a5a9d45dc5610ff443bb58af9",
+    (16, 15): "d8cce930b4f51d72a87aaf675c3cccff",
+    (16, 16): "60c73b85610cc0181d6891636d9e677c",
+    (16, 17): "4e090dfbf15713dbb574904d762cc026",
+    (16, 63): "c74113cfeddb595f2a3b6c0ec19f18c8",
+    (16, 64): "cef93cbe9161722887206f6c3e895439",
+    (16, 65): "297dfe2f95f81285bf52aa40bba5c81f",
+    (17, 0): "7b19ff9cd41f50502491baac90a0710b",
+    (17, 1): "b42cc0b022d527f523759ab8f94f2b47",
+    (17, 15): "8d9392477c2d008b75df4adb1ad76c4d",
+    (17, 16): "108ee49b2944a231eacc2cd72b3908ca",
+    (17, 17): "63f7a758fec448a439b1f0d7f3462ef4",
+    (17, 63): "fde884bd641f40bd7db9eabb9bb9593b",
+    (17, 64): "04a1aeac08a55886da9eed1919a395ac",
+    (17, 65): "02a436ffc91c17ff0a71767917787c8b",
+}
+
+
+# What ae_seal ought to give for seen_row(s) and data_row(n): the sealed bytes and the mark behind them.
+def sealed_row(s, n):
+    return combined(data_row(n), BLOCKS[1] + BLOCKS[2]) + row(SEAL_MARKS[s, n])

@@ -4,7 +4,8 @@ import unittest
 
 from helper import (
     AnswersTest, BLOCKS, KEY, KEY_ANSWER, MARK, MARK_KEY, MARK_ROW, ONCE, ZERO_BLOCKS, ZERO_KEY, ZERO_ONCE,
-    answered, block_call, combined, key_call, mark_call, stream_call,
+    answered, block_call, combined, data_row, drops_call, key_call, mark_call, open_call, opened, seal_call,
+    sealed_row, seen_row, stream_call,
 )
 from sealedrows.seals import answers
 
@@ -17,8 +18,16 @@ class KeyTest(AnswersTest):
         self.assert_same(answers(key_call(KEY) + key_call(ZERO_KEY) + key_call(KEY)), [1, 0, 1, 0, 1, 0])
 
     def test_counts_for_all_calls_behind_it(self):
-        calls = key_call(KEY) + block_call(1, ONCE) + block_call(2, ONCE) + stream_call(3, 64, ONCE, [0] * 64)
-        expected = KEY_ANSWER + answered(BLOCKS[1]) + answered(BLOCKS[2]) + answered(BLOCKS[3])
+        calls = (
+            key_call(KEY) + block_call(1, ONCE) + block_call(2, ONCE) + stream_call(3, 64, ONCE, [0] * 64)
+            + seal_call(1, 17, ONCE, seen_row(1), data_row(17)) + open_call(1, 17, ONCE, seen_row(1), sealed_row(1, 17))
+            + drops_call(1, ONCE, [0])
+        )
+        expected = (
+            KEY_ANSWER + answered(BLOCKS[1]) + answered(BLOCKS[2]) + answered(BLOCKS[3])
+            + answered(sealed_row(1, 17)) + opened(data_row(17))
+            + answered(BLOCKS[0])
+        )
         self.assert_same(answers(calls), expected)
 
     def test_second_key_takes_the_place_of_the_first(self):

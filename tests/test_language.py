@@ -27,6 +27,11 @@ METHODS = set(
     "items join keys ljust lower lstrip partition pop remove replace reverse rfind rjust rpartition rsplit rstrip "
     "setdefault split splitlines startswith strip update upper values zfill bit_length".split()
 )
+NAMES_THAT_ARE_NOT_USED = set(
+    "register mro elements open input version_info with_traceback add_note attrgetter breakpoint builtins compile "
+    "copyright credits delattr dir eval exec exit gc getattr globals hasattr help id importlib license locals "
+    "methodcaller os quit setattr super type vars sys".split()
+)
 WORDS_THAT_STAND_NOWHERE = re.compile(
     r"\b(type|typing|typing_extensions|enum|Enum|IntEnum|StrEnum|Flag|IntFlag|Generic|Protocol|ABC|ABCMeta|namedtuple"
     r"|NamedTuple|TypedDict|TYPE_CHECKING|abstractmethod)\b|dataclass|overload|contextmanager"
@@ -109,6 +114,22 @@ class LanguageTest(unittest.TestCase):
         for path, node in nodes_of(ast.Call):
             if isinstance(node.func, ast.Attribute):
                 self.assertIn(node.func.attr, METHODS | own, f"{path.name}:{node.lineno}")
+
+    def test_names_that_are_not_used(self):
+        used = bound_names() + [(path, node.attr) for path, node in nodes_of(ast.Attribute)]
+        used += [(path, node.id) for path, node in nodes_of(ast.Name)]
+        for path, name in used:
+            self.assertNotIn(name, NAMES_THAT_ARE_NOT_USED, path)
+
+    def test_values_of_objects_and_methods_are_told_apart(self):
+        stored = {node.attr for path, node in nodes_of(ast.Attribute) if isinstance(node.ctx, ast.Store)}
+        methods = {
+            inner.name for path, node in nodes_of(ast.ClassDef) for inner in node.body
+            if isinstance(inner, ast.FunctionDef)
+        }
+        self.assertEqual(stored & methods, set())
+        taken = {name for value in ("", 0, [], {}, set(), b"") for name in dir(value)}
+        self.assertEqual((stored | methods - {"__init__"}) & taken, set())
 
     def test_names_are_bound_once_at_the_top(self):
         for path in FILES:
